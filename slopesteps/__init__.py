@@ -1,0 +1,1 @@
+"""Equations with slopes, and with steps: which polynomials solve them."""

@@ -1,0 +1,125 @@
+"""The calls: what is handed in is checked, in the order of the promises, and what is answered is put together."""
+
+from slopesteps.heights import how_high
+from slopesteps.polynomials import left_side
+from slopesteps.polynomials import number_at
+from slopesteps.polynomials import trimmed
+from slopesteps.systems import all_solutions
+from slopesteps.texts import read_polynomial
+from slopesteps.texts import terms_over
+from slopesteps.texts import write_polynomial
+from slopesteps.wholes import least_multiple
+
+NOT_A_POLYNOMIAL = -1
+TOO_BIG = -2
+NO_LEFT_SIDE = -3
+NO_SOLUTION = -5
+WRONG_COUNT = -6
+
+MOST_PARTS = 4
+MOST_DEGREE = 4
+MOST_NUMBER = 9999
+MOST_HEIGHT = 24
+
+
+def solve(kind, sizes, texts):
+    """Tell all polynomials that solve one or two equations; sizes and texts as the document says."""
+    if not counts_fit(kind, sizes, len(texts)):
+        return [WRONG_COUNT]
+    polynomials = [read_polynomial(text) for text in texts]
+    refusal = polynomials_refusal(polynomials)
+    if refusal != 0:
+        return [refusal]
+    equations = whole_equations(sizes, polynomials)
+    if any([all_zero(parts) for parts, right in equations]):
+        return [NO_LEFT_SIDE]
+    # A height of -1, where nothing is named, leaves y = 0 alone, whatever the other equation's height is.
+    height = min([how_high(kind, parts, right) for parts, right in equations])
+    if height > MOST_HEIGHT:
+        return [TOO_BIG]
+    solutions = all_solutions(equation_rows(kind, equations, height + 1), height + 1)
+    if solutions is None:
+        return [NO_SOLUTION]
+    return told_solutions(solutions[0], solutions[1], solutions[2])
+
+
+def counts_fit(kind, sizes, count):
+    """Tell whether the kind, each size, and how many sizes and texts there are is as the document asks."""
+    if kind > 1 or len(sizes) < 1 or len(sizes) > 2:
+        return False
+    if any([size < 1 or size > MOST_PARTS for size in sizes]):
+        return False
+    return count == sum(sizes) + len(sizes)
+
+
+def polynomials_refusal(polynomials):
+    """Give the refusal for what was read of the texts, or 0 if there's none."""
+    if None in polynomials:
+        return NOT_A_POLYNOMIAL
+    if any([too_big(terms) for terms in polynomials]):
+        return TOO_BIG
+    return 0
+
+
+def too_big(terms):
+    """Tell whether a polynomial's degree or one of its numbers is above what is taken."""
+    return any([power > MOST_DEGREE or abs(top) > MOST_NUMBER or bottom > MOST_NUMBER for power, top, bottom in terms])
+
+
+def whole_equations(sizes, polynomials):
+    """Give each equation as a tuple (parts, right), both sides multiplied so that all its numbers are whole."""
+    equations = []
+    start = 0
+    for size in sizes:
+        end = start + size + 1
+        scaled = whole_polynomials(polynomials[start:end])
+        equations.append((scaled[:size], scaled[size]))
+        start = end
+    return equations
+
+
+def whole_polynomials(polynomials):
+    """Give the polynomials, of degrees that are taken, all times the least number that makes them whole."""
+    common = 1
+    for terms in polynomials:
+        for power, top, bottom in terms:
+            common = least_multiple(common, bottom)
+    return [whole_numbers(terms, common) for terms in polynomials]
+
+
+def whole_numbers(terms, common):
+    """Give the polynomial of the terms, times a number that each bottom goes into."""
+    numbers = [0] * (MOST_DEGREE + 1)
+    for power, top, bottom in terms:
+        numbers[power] = common // bottom * top
+    return trimmed(numbers)
+
+
+def all_zero(parts):
+    """Tell whether all the polynomials are 0."""
+    return all([part == [] for part in parts])
+
+
+def equation_rows(kind, equations, count):
+    """Give a row for each power in each equation, the unknowns being the count lowest numbers of y."""
+    rows = []
+    for parts, right in equations:
+        columns = [left_side(kind, parts, [0] * power + [1]) for power in range(count)] + [right]
+        powers = max([len(column) for column in columns])
+        rows.extend([row_at(columns, power) for power in range(powers)])
+    return rows
+
+
+def row_at(columns, power):
+    """Give the number that each polynomial has at a power."""
+    return [number_at(column, power) for column in columns]
+
+
+def told_solutions(bottom, y0, others):
+    """Give the answer: how many others there are, then y0, then the others, all to be divided by bottom."""
+    answer = [len(others)]
+    for numbers in [y0] + others:
+        text = write_polynomial(terms_over(numbers, bottom))
+        answer.append(len(text))
+        answer.extend(text)
+    return answer

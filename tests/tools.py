@@ -1,0 +1,176 @@
+"""What the tests share: calls with plain texts, and a second, slower way to find out what is right."""
+
+import re
+from fractions import Fraction
+
+from slopesteps.equations import solve
+
+TERM = re.compile(r"(?:(\d+)(?:/(\d+))?)?\*?(x)?(?:\^(\d+))?")
+
+
+def bytes_of(text):
+    return list(text.encode("latin-1"))
+
+
+def untold(answer):
+    """An answer as [number, text, text, ...]; its form is checked on the way."""
+    assert isinstance(answer, list) and all(type(number) is int for number in answer), answer
+    if answer[0] < 0:
+        assert len(answer) == 1, answer
+        return answer
+    result = [answer[0]]
+    place = 1
+    while place < len(answer):
+        end = place + 1 + answer[place]
+        assert end <= len(answer), answer
+        assert all(0 <= byte <= 255 for byte in answer[place + 1:end]), answer
+        result.append(bytes(answer[place + 1:end]).decode("ascii"))
+        place = end
+    return result
+
+
+def solved(kind, sizes, *texts):
+    return untold(solve(kind, sizes, [bytes_of(text) for text in texts]))
+
+
+def numbers_of(text):
+    """A polynomial's text as a list of fractions from power 0 on, without zeros at the end."""
+    found = {}
+    for piece in text.replace(" - ", " + -").split(" + "):
+        sign = -1 if piece.startswith("-") else 1
+        top, bottom, letter, power = TERM.fullmatch(piece.lstrip("-")).groups()
+        place = int(power or 1) if letter else 0
+        found[place] = sign * Fraction(int(top or 1), int(bottom or 1))
+    return cut([found.get(place, Fraction(0)) for place in range(max(found) + 1)])
+
+
+def text_of(numbers):
+    """The text of a list of fractions."""
+    text = ""
+    for power in range(len(numbers) - 1, -1, -1):
+        number = Fraction(numbers[power])
+        if number == 0:
+            continue
+        sign = "-" if number < 0 else "+"
+        text += f" {sign} " if text else sign.replace("+", "")
+        letter = ["", "x"][power] if power < 2 else f"x^{power}"
+        size = str(abs(number))
+        text += size if not letter else letter if size == "1" else f"{size}*{letter}"
+    return text or "0"
+
+
+def cut(numbers):
+    numbers = list(numbers)
+    while numbers and numbers[-1] == 0:
+        numbers.pop()
+    return numbers
+
+
+def added(first, second):
+    size = max(len(first), len(second))
+    return cut([(first[k] if k < len(first) else 0) + (second[k] if k < len(second) else 0) for k in range(size)])
+
+
+def multiplied(first, second):
+    result = [Fraction(0)] * (len(first) + len(second))
+    for k, number in enumerate(first):
+        for m, other in enumerate(second):
+            result[k + m] += number * other
+    return cut(result)
+
+
+def moved(numbers, step):
+    """The polynomial at x + step."""
+    result = []
+    power = [Fraction(1)]
+    for number in numbers:
+        result = added(result, multiplied([Fraction(number)], power))
+        power = multiplied(power, [Fraction(step), Fraction(1)])
+    return result
+
+
+def left_of(kind, parts, y):
+    total = []
+    for order, part in enumerate(parts):
+        if kind == 1:
+            other = moved(y, order)
+        else:
+            other = list(y)
+            for turn in range(order):
+                other = [k * number for k, number in enumerate(other)][1:]
+        total = added(total, multiplied(part, other))
+    return total
+
+
+def equations_of(sizes, texts):
+    """A list of (parts, right) with fractions."""
+    result = []
+    rest = [numbers_of(text) for text in texts]
+    for size in sizes:
+        result.append((rest[:size], rest[size]))
+        rest = rest[size + 1:]
+    return result
+
+
+def expected(kind, sizes, texts, most):
+    """The answer if all solutions are to have a degree of at most most, found with fractions."""
+    rows = []
+    for parts, right in equations_of(sizes, texts):
+        columns = [left_of(kind, parts, [0] * n + [1]) for n in range(most + 1)] + [right]
+        for power in range(max(len(column) for column in columns)):
+            rows.append([Fraction(column[power]) if power < len(column) else Fraction(0) for column in columns])
+    pivots = []
+    for column in range(most + 1):
+        rank = len(pivots)
+        found = [k for k in range(rank, len(rows)) if rows[k][column] != 0]
+        if not found:
+            continue
+        rows[rank], rows[found[0]] = rows[found[0]], rows[rank]
+        rows[rank] = [number / rows[rank][column] for number in rows[rank]]
+        for k in range(len(rows)):
+            if k != rank and rows[k][column] != 0:
+                share = rows[k][column]
+                rows[k] = [number - share * other for number, other in zip(rows[k], rows[rank])]
+        pivots.append(column)
+    if any(row[-1] != 0 for row in rows[len(pivots):]):
+        return [-5]
+    y0 = [Fraction(0)] * (most + 1)
+    for k, column in enumerate(pivots):
+        y0[column] = rows[k][-1]
+    others = []
+    for free in range(most + 1):
+        if free not in pivots:
+            other = [Fraction(0)] * (most + 1)
+            other[free] = Fraction(1)
+            for k, column in enumerate(pivots):
+                other[column] = -rows[k][free]
+            others.append(other)
+    return [len(others), text_of(y0)] + [text_of(other) for other in others]
+
+
+def falling(n, order):
+    result = 1
+    for k in range(order):
+        result *= n - k
+    return result
+
+
+def height_of(kind, parts, right, most):
+    """How high, as point 3 says it, with whole roots looked for from 0 to most one by one; None if there's none."""
+    shares = parts
+    if kind == 1:
+        shares = []
+        for order in range(len(parts)):
+            share = []
+            for k in range(order, len(parts)):
+                ways = falling(k, order) // falling(order, order)
+                share = added(share, [ways * number for number in parts[k]])
+            shares.append(share)
+    b = max(len(share) - 1 - order for order, share in enumerate(shares) if share)
+    named = []
+    for n in range(most + 1):
+        if sum(s[-1] * falling(n, k) for k, s in enumerate(shares) if s and len(s) - 1 - k == b) == 0:
+            named.append(n)
+    if right and len(right) - 1 - b >= 0:
+        named.append(len(right) - 1 - b)
+    return max(named) if named else None
