@@ -50,7 +50,7 @@ def cleared(rows, rank, column, former):
 
 def cleared_row(row, head, column, former):
     """Give the row times the head's pivot, less the head times the row's number there, divided by former."""
-    # Each number is a determinant of the first rows, so the former pivot always goes in and the numbers stay small.
+    # What comes out is a determinant of the rows handed in, so former goes into it and the numbers stay small.
     pivot = head[column]
     share = row[column]
     return [(pivot * number - share * other) // former for number, other in zip(row, head)]

@@ -27,6 +27,7 @@ WORDS = """
 """.split()
 NOT_NAMES = "register mro elements open input version_info id dir vars type help exit quit os gc sys eval exec".split()
 WALKED = ("zip", "enumerate", "reversed", "range", "items", "keys", "values")
+CHANGING = ("append", "extend", "insert", "pop", "remove", "reverse", "clear", "update", "setdefault")
 WALKERS = ("list", "tuple", "dict", "sorted", "sum", "any", "all", "enumerate", "zip", "min", "max")
 
 
@@ -134,7 +135,8 @@ class Code(unittest.TestCase):
 
     def test_names(self):
         for path, tree in trees():
-            top = [name for node in tree.body if isinstance(node, ast.ImportFrom) for name in map(lambda a: a.name, node.names)]
+            drawn = [node for node in tree.body if isinstance(node, ast.ImportFrom)]
+            top = [name.name for node in drawn for name in node.names]
             top += [node.name for node in tree.body if isinstance(node, ast.FunctionDef)]
             for node in ast.walk(tree):
                 if isinstance(node, ast.Name) and isinstance(node.ctx, ast.Load) and node.id in dir(builtins):
@@ -173,7 +175,7 @@ class Code(unittest.TestCase):
                     for node in [inner for row in loop.body for inner in ast.walk(row)]:
                         if isinstance(node, ast.Subscript) and isinstance(node.ctx, ast.Store):
                             self.assertNotIn(getattr(node.value, "id", None), names, (path, node.lineno))
-                        if called(node) in ("append", "extend", "insert", "pop", "remove", "reverse", "clear", "update"):
+                        if called(node) in CHANGING:
                             self.assertNotIn(getattr(node.func.value, "id", None), names, (path, node.lineno))
 
 

@@ -70,7 +70,7 @@ class ByHand(Answers):
         self.assertEqual(solved(1, [4], "0", "0", "0", "1", "x^2"), [0, "x^2 - 6*x + 9"])
 
     def test_y0_beside_others_has_nothing_at_their_highest_powers(self):
-        # (x*y' - y)' = x*y'' = 2: without that rule y0 might be x^2 and any 5*x - 3.
+        # Without that rule y0 might be x^2 + 5*x - 3 as well.
         self.assertEqual(solved(0, [3], "0", "0", "1", "2"), [2, "x^2", "1", "x"])
         # x^2 + 2*x + 2 is the other one; y0 is lower, and keeps its x.
         self.assertEqual(solved(0, [3], "2", "-x - 2", "x", "x - 2"), [1, "x", "x^2 + 2*x + 2"])

@@ -122,7 +122,8 @@ class WholeRoots(unittest.TestCase):
     def test_products_of_roots(self):
         generator = random.Random(31)
         for turn in range(300):
-            roots = [generator.choice([-3, -1, 0, 1, 2, 24, 25, 10 ** 6, 10 ** 30]) for k in range(generator.randint(0, 3))]
+            choices = [-3, -1, 0, 1, 2, 24, 25, 10 ** 6, 10 ** 30]
+            roots = [generator.choice(choices) for k in range(generator.randint(0, 3))]
             numbers = [generator.choice([1, -1, 7, 10 ** 20])]
             for root in roots:
                 numbers = [a - root * b for a, b in zip([0] + numbers, numbers + [0])]
@@ -161,7 +162,10 @@ class AgainstASlowerWay(unittest.TestCase):
                 continue
             high = height_of(kind, *equations_of(sizes, texts)[0], 700)
             seen[high] = True
-            wanted = [-2] if high is not None and high > 24 else expected(kind, sizes, texts, 9 if high is None else high)
+            if high is not None and high > 24:
+                wanted = [-2]
+            else:
+                wanted = expected(kind, sizes, texts, 9 if high is None else high)
             self.assertEqual(solved(kind, sizes, *texts), wanted, (kind, texts))
         self.assertIn(None, seen)
         self.assertTrue(any(high is not None and high > 24 for high in seen))
