@@ -40,7 +40,21 @@ def solve(kind, sizes, texts):
     solutions = all_solutions(equation_rows(kind, equations, height + 1), height + 1)
     if solutions is None:
         return [NO_SOLUTION]
-    return told_solutions(solutions[0], solutions[1], solutions[2])
+    return told(len(solutions[2]), [solutions[1]] + solutions[2], solutions[0])
+
+
+def left(kind, texts):
+    """Tell the left side of an equation for a given y; texts, y's first, as the document says."""
+    if kind > 1 or len(texts) < 2 or len(texts) > 1 + MOST_PARTS:
+        return [WRONG_COUNT]
+    polynomials = [read_polynomial(text) for text in texts]
+    refusal = polynomials_refusal(polynomials)
+    if refusal != 0:
+        return [refusal]
+    common = common_bottom(polynomials)
+    scaled = [whole_numbers(terms, common) for terms in polynomials]
+    # Each product has the common bottom twice: once of y, once of the polynomial that y is multiplied by.
+    return told(1, [left_side(kind, scaled[1:], scaled[0])], common * common)
 
 
 def counts_fit(kind, sizes, count):
@@ -72,23 +86,24 @@ def whole_equations(sizes, polynomials):
     start = 0
     for size in sizes:
         end = start + size + 1
-        scaled = whole_polynomials(polynomials[start:end])
+        common = common_bottom(polynomials[start:end])
+        scaled = [whole_numbers(terms, common) for terms in polynomials[start:end]]
         equations.append((scaled[:size], scaled[size]))
         start = end
     return equations
 
 
-def whole_polynomials(polynomials):
-    """Give the polynomials, of degrees that are taken, all times the least number that makes them whole."""
+def common_bottom(polynomials):
+    """Give the least number above 0 that makes all the polynomials whole if they're multiplied by it."""
     common = 1
     for terms in polynomials:
         for power, top, bottom in terms:
             common = least_multiple(common, bottom)
-    return [whole_numbers(terms, common) for terms in polynomials]
+    return common
 
 
 def whole_numbers(terms, common):
-    """Give the polynomial of the terms, times a number that each bottom goes into."""
+    """Give the polynomial of the terms, of a degree that's taken, times a number that each bottom goes into."""
     numbers = [0] * (MOST_DEGREE + 1)
     for power, top, bottom in terms:
         numbers[power] = common // bottom * top
@@ -115,10 +130,10 @@ def row_at(columns, power):
     return [number_at(column, power) for column in columns]
 
 
-def told_solutions(bottom, y0, others):
-    """Give the answer: how many others there are, then y0, then the others, all to be divided by bottom."""
-    answer = [len(others)]
-    for numbers in [y0] + others:
+def told(number, polynomials, bottom):
+    """Give the answer: the number, then the texts of the polynomials, all to be divided by bottom."""
+    answer = [number]
+    for numbers in polynomials:
         text = write_polynomial(terms_over(numbers, bottom))
         answer.append(len(text))
         answer.extend(text)

@@ -6,7 +6,8 @@ import re
 import unittest
 from fractions import Fraction
 
-from tests.tools import added, bytes_of, equations_of, expected, left_of, multiplied, numbers_of, solved, text_of
+from tests.tools import added, bytes_of, equation_for, equations_of, expected, left_of, multiplied, numbers_of, solved
+from tests.tools import some_numbers, taken, text_of
 from slopesteps.equations import solve
 
 
@@ -206,38 +207,6 @@ class NothingIsChangedOrKept(unittest.TestCase):
         self.assertEqual(solve(0, [1], texts), [0, 1, 120])
         same = bytes_of("1")
         self.assertEqual(solve(0, [1], [same, same]), [0, 1, 49])
-
-
-def some_numbers(generator, most):
-    numbers = [Fraction(generator.choice([0, 0, 1, -1, 2, -3]), generator.choice([1, 1, 2, 3])) for k in range(most)]
-    while numbers and numbers[-1] == 0:
-        numbers.pop()
-    return numbers
-
-
-def equation_for(generator, kind, y):
-    parts = [some_numbers(generator, generator.randint(0, 3)) for k in range(generator.randint(1, 4))]
-    if not any(parts):
-        parts[0] = [Fraction(1)]
-    if kind == 1 and generator.randint(0, 3) > 0:
-        parts = from_differences(parts)
-    return parts, left_of(kind, parts, y)
-
-
-def from_differences(shares):
-    """p0, p1, ... of q0*y + q1*Dy + ...; such equations have others more often."""
-    parts = []
-    for share in reversed(shares):
-        lower = [multiplied([Fraction(-1)], part) for part in parts] + [[]]
-        parts = [added(first, second) for first, second in zip(lower, [[]] + parts)]
-        parts[0] = added(parts[0], share)
-    return parts
-
-
-def taken(polynomials):
-    numbers = [number for polynomial in polynomials for number in polynomial]
-    small = all(abs(number.numerator) <= 9999 and number.denominator <= 9999 for number in map(Fraction, numbers))
-    return small and all(len(polynomial) <= 5 for polynomial in polynomials)
 
 
 if __name__ == "__main__":

@@ -3,7 +3,7 @@
 import re
 from fractions import Fraction
 
-from slopesteps.equations import solve
+from slopesteps.equations import left, solve
 
 TERM = re.compile(r"(?:(\d+)(?:/(\d+))?)?\*?(x)?(?:\^(\d+))?")
 
@@ -31,6 +31,10 @@ def untold(answer):
 
 def solved(kind, sizes, *texts):
     return untold(solve(kind, sizes, [bytes_of(text) for text in texts]))
+
+
+def lefted(kind, *texts):
+    return untold(left(kind, [bytes_of(text) for text in texts]))
 
 
 def numbers_of(text):
@@ -174,3 +178,35 @@ def height_of(kind, parts, right, most):
     if right and len(right) - 1 - b >= 0:
         named.append(len(right) - 1 - b)
     return max(named) if named else None
+
+
+def some_numbers(generator, most):
+    numbers = [Fraction(generator.choice([0, 0, 1, -1, 2, -3]), generator.choice([1, 1, 2, 3])) for k in range(most)]
+    while numbers and numbers[-1] == 0:
+        numbers.pop()
+    return numbers
+
+
+def equation_for(generator, kind, y):
+    parts = [some_numbers(generator, generator.randint(0, 3)) for k in range(generator.randint(1, 4))]
+    if not any(parts):
+        parts[0] = [Fraction(1)]
+    if kind == 1 and generator.randint(0, 3) > 0:
+        parts = from_differences(parts)
+    return parts, left_of(kind, parts, y)
+
+
+def from_differences(shares):
+    """p0, p1, ... of q0*y + q1*Dy + ...; such equations have others more often."""
+    parts = []
+    for share in reversed(shares):
+        lower = [multiplied([Fraction(-1)], part) for part in parts] + [[]]
+        parts = [added(first, second) for first, second in zip(lower, [[]] + parts)]
+        parts[0] = added(parts[0], share)
+    return parts
+
+
+def taken(polynomials):
+    numbers = [number for polynomial in polynomials for number in polynomial]
+    small = all(abs(number.numerator) <= 9999 and number.denominator <= 9999 for number in map(Fraction, numbers))
+    return small and all(len(polynomial) <= 5 for polynomial in polynomials)
