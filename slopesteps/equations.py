@@ -1,25 +1,30 @@
 """The calls: what is handed in is checked, in the order of the promises, and what is answered is put together."""
 
+from slopesteps.beginnings import can_go_on
+from slopesteps.beginnings import gone_on
 from slopesteps.heights import how_high
 from slopesteps.polynomials import left_side
 from slopesteps.polynomials import number_at
 from slopesteps.polynomials import trimmed
 from slopesteps.systems import all_solutions
+from slopesteps.texts import read_number
 from slopesteps.texts import read_polynomial
 from slopesteps.texts import terms_over
 from slopesteps.texts import write_polynomial
 from slopesteps.wholes import least_multiple
 
-NOT_A_POLYNOMIAL = -1
+NOT_SUCH_A_TEXT = -1
 TOO_BIG = -2
 NO_LEFT_SIDE = -3
 NO_SOLUTION = -5
+NO_WAY_ON = -5
 WRONG_COUNT = -6
 
 MOST_PARTS = 4
 MOST_DEGREE = 4
 MOST_NUMBER = 9999
 MOST_HEIGHT = 24
+MOST_VALUES = 20
 
 
 def solve(kind, sizes, texts):
@@ -27,7 +32,7 @@ def solve(kind, sizes, texts):
     if not counts_fit(kind, sizes, len(texts)):
         return [WRONG_COUNT]
     polynomials = [read_polynomial(text) for text in texts]
-    refusal = polynomials_refusal(polynomials)
+    refusal = texts_refusal(polynomials)
     if refusal != 0:
         return [refusal]
     equations = whole_equations(sizes, polynomials)
@@ -48,13 +53,33 @@ def left(kind, texts):
     if kind > 1 or len(texts) < 2 or len(texts) > 1 + MOST_PARTS:
         return [WRONG_COUNT]
     polynomials = [read_polynomial(text) for text in texts]
-    refusal = polynomials_refusal(polynomials)
+    refusal = texts_refusal(polynomials)
     if refusal != 0:
         return [refusal]
     common = common_bottom(polynomials)
     scaled = [whole_numbers(terms, common) for terms in polynomials]
     # Each product has the common bottom twice: once of y, once of the polynomial that y is multiplied by.
     return told(1, [left_side(kind, scaled[1:], scaled[0])], common * common)
+
+
+def run(kind, n, size, texts):
+    """Tell n numbers of the series, or n values, from a beginning; texts as the document says."""
+    # The beginning has one text fewer than size, the rest are counted as for solve.
+    if not counts_fit(kind, [size], len(texts) - size + 1):
+        return [WRONG_COUNT]
+    if n > MOST_VALUES:
+        return [TOO_BIG]
+    polynomials = [read_polynomial(text) for text in texts[:size + 1]]
+    numbers = [read_number(text) for text in texts[size + 1:]]
+    for read in (polynomials, numbers):
+        refusal = texts_refusal(read)
+        if refusal != 0:
+            return [refusal]
+    equation = whole_equations([size], polynomials)[0]
+    if not can_go_on(kind, equation[0], n):
+        return [NO_WAY_ON]
+    found = gone_on(kind, equation[0], equation[1], over_common_bottom(numbers), n)
+    return told(n, [[top] for top in found[0]], found[1])
 
 
 def counts_fit(kind, sizes, count):
@@ -66,10 +91,10 @@ def counts_fit(kind, sizes, count):
     return count == sum(sizes) + len(sizes)
 
 
-def polynomials_refusal(polynomials):
+def texts_refusal(polynomials):
     """Give the refusal for what was read of the texts, or 0 if there's none."""
     if None in polynomials:
-        return NOT_A_POLYNOMIAL
+        return NOT_SUCH_A_TEXT
     if any([too_big(terms) for terms in polynomials]):
         return TOO_BIG
     return 0
@@ -108,6 +133,12 @@ def whole_numbers(terms, common):
     for power, top, bottom in terms:
         numbers[power] = common // bottom * top
     return trimmed(numbers)
+
+
+def over_common_bottom(numbers):
+    """Give (tops, bottom) of the numbers, each of them the terms of a polynomial without x."""
+    common = common_bottom(numbers)
+    return ([number_at(whole_numbers(terms, common), 0) for terms in numbers], common)
 
 
 def all_zero(parts):

@@ -1,4 +1,4 @@
-"""Texts of polynomials, as lists of bytes.
+"""Texts of polynomials and numbers, as lists of bytes.
 
 A term is a tuple (power, top, bottom): the number top / bottom, with bottom above 0, times x to that power.
 A polynomial's terms stand with the higher powers first, none with top 0, each in lowest terms.
@@ -27,6 +27,14 @@ def read_polynomial(text):
     if write_polynomial(kept) != text:
         return None
     return kept
+
+
+def read_number(text):
+    """Give the terms of a number's text, at most one and without x, or None if it isn't such a text."""
+    # A number is written as the polynomial that it is, and nothing but an x is one's and not the other's.
+    if LETTER_X in text:
+        return None
+    return read_polynomial(text)
 
 
 def split_at_signs(text):

@@ -6,17 +6,10 @@ import re
 import unittest
 from fractions import Fraction
 
+from tests.samples import PRIMES
 from tests.tools import added, bytes_of, equation_for, left_of, lefted, multiplied, numbers_of, solved, some_numbers
-from tests.tools import taken, text_of
+from tests.tools import taken, text_of, value
 from slopesteps.equations import left, solve
-
-# Primes, so that nothing goes into two of them.
-PRIMES = (9973, 9967, 9949, 9941, 9931, 9929, 9923, 9907, 9901, 9887, 9883, 9871, 9859, 9857, 9851, 9839, 9833, 9829,
-          9817, 9811, 9803, 9791, 9787, 9781, 9769)
-
-
-def value(numbers, place):
-    return sum(number * Fraction(place) ** power for power, number in enumerate(numbers))
 
 
 class ByHand(unittest.TestCase):

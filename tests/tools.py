@@ -3,7 +3,7 @@
 import re
 from fractions import Fraction
 
-from slopesteps.equations import left, solve
+from slopesteps.equations import left, run, solve
 
 TERM = re.compile(r"(?:(\d+)(?:/(\d+))?)?\*?(x)?(?:\^(\d+))?")
 
@@ -35,6 +35,10 @@ def solved(kind, sizes, *texts):
 
 def lefted(kind, *texts):
     return untold(left(kind, [bytes_of(text) for text in texts]))
+
+
+def ran(kind, n, size, *texts):
+    return untold(run(kind, n, size, [bytes_of(text) for text in texts]))
 
 
 def numbers_of(text):
@@ -210,3 +214,45 @@ def taken(polynomials):
     numbers = [number for polynomial in polynomials for number in polynomial]
     small = all(abs(number.numerator) <= 9999 and number.denominator <= 9999 for number in map(Fraction, numbers))
     return small and all(len(polynomial) <= 5 for polynomial in polynomials)
+
+
+def value(numbers, place):
+    return sum(number * Fraction(place) ** power for power, number in enumerate(numbers))
+
+
+def slopes_at_0(numbers, count):
+    """The value at 0 of a polynomial and of its slopes, count in all."""
+    padded = list(numbers) + [Fraction(0)] * count
+    return [padded[order] * falling(order, order) for order in range(count)]
+
+
+def expected_run(kind, n, parts, right, beginning):
+    """What run answers, found with fractions: of kind 0 from the equation's own slopes at 0, taken n times."""
+    last = parts[-1]
+    size = len(parts)
+    if kind == 0 and value(last, 0) == 0:
+        return [-5]
+    row = [Fraction(number) for number in beginning]
+    for place in range(n - size + 1):
+        if value(last, place if kind == 1 else 0) == 0:
+            return [-5]
+        if kind == 1:
+            known = sum(value(part, place) * row[place + step] for step, part in enumerate(parts[:-1]))
+            row.append((value(right, place) - known) / value(last, place))
+        else:
+            row.append(next_slope(parts, right, row, place))
+    if kind == 0:
+        row = [number / falling(order, order) for order, number in enumerate(row)]
+    return [n] + [str(number) for number in row[:n]]
+
+
+def next_slope(parts, right, row, times):
+    """The slope of y at 0 behind those of row, from the equation's slope at 0, taken so many times."""
+    known = Fraction(0)
+    for order, part in enumerate(parts):
+        of_part = slopes_at_0(part, times + 1)
+        for turn in range(times + 1):
+            ways = falling(times, turn) // falling(turn, turn)
+            if order + times - turn < len(row):
+                known += ways * of_part[turn] * row[order + times - turn]
+    return (slopes_at_0(right, times + 1)[times] - known) / value(parts[-1], 0)
